@@ -1,0 +1,1 @@
+"""Cornerhunt: who hides and who seeks on a web."""
