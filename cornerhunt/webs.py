@@ -11,6 +11,11 @@ def is_whole(value):
     return type(value) is int
 
 
+def is_point(value, many):
+    """Tell whether this is a point of a web of so many points."""
+    return is_whole(value) and 0 <= value < many
+
+
 class Web:
     """Some points, and ties that are put in and taken out between them."""
 
@@ -88,5 +93,5 @@ class Web:
 
     def _need_point(self, point):
         # The message leaves out what was handed in: showing it might fail.
-        if not is_whole(point) or point < 0 or point >= self._many:
+        if not is_point(point, self._many):
             raise NoPoint("the web has no such point")

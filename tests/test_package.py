@@ -9,8 +9,11 @@ import cornerhunt
 FOLDER = os.path.dirname(os.path.abspath(cornerhunt.__file__))
 ROOT = os.path.dirname(FOLDER)
 
-# Each landed file of the interface: its functions, and its classes with their methods.
-FUNCTIONS = {}
+# Each file of the interface: its functions with their arguments, and its classes with their methods.
+FUNCTIONS = {
+    "folding": {"is_beneath": ["web", "points", "one", "other"]},
+    "notes": {"web_lines": ["web"], "web_of": ["lines"]},
+}
 CLASSES = {
     "errors": {
         "HuntError": [],
@@ -23,6 +26,8 @@ CLASSES = {
         "BadLine": [],
     },
     "webs": {"Web": ["many", "tie", "untie", "is_tied", "ties", "near", "parts"]},
+    "folding": {"Folded": ["row", "kernel", "shadow", "refuge"]},
+    "hunts": {"Hunt": ["number", "goes", "hides", "start", "game"]},
 }
 
 
@@ -54,9 +59,11 @@ class PackageTest(unittest.TestCase):
 
     def test_functions_are_defined_in_their_files(self):
         for name, functions in FUNCTIONS.items():
-            for function in functions:
+            for function, arguments in functions.items():
                 with self.subTest(name, function=function):
                     self.assertIn(function, defined(name, ast.FunctionDef))
+                    found = defined(name, ast.FunctionDef)[function].args.args
+                    self.assertEqual([row.arg for row in found], arguments)
 
     def test_classes_are_defined_in_their_files(self):
         for name, classes in CLASSES.items():

@@ -2,28 +2,11 @@
 
 import unittest
 
-from cornerhunt.errors import BadTie, BadWeb, HuntError, NoPoint
+from cornerhunt.errors import BadTie, BadWeb, NoPoint
 from cornerhunt.webs import Web
-from wrong_kinds import great_numbers, no_numbers
-
-
-def web_with(many, ties):
-    web = Web(many)
-    for one, other in ties:
-        web.tie(one, other)
-    return web
-
-
-def all_told(web):
-    """All that a web tells, to be compared with what it tells later."""
-    points = range(web.many())
-    return {
-        "many": web.many(),
-        "ties": web.ties(),
-        "near": [web.near(point) for point in points],
-        "parts": web.parts(),
-        "is_tied": [[web.is_tied(one, other) for other in points] for one in points],
-    }
+from made_webs import all_told, web_with
+from refusals import RefusalCase
+from wrong_kinds import great_numbers, no_numbers, no_points
 
 
 def expected(many, ties):
@@ -44,13 +27,7 @@ def expected(many, ties):
     }
 
 
-def no_points(many):
-    """Pairs of a name and a thing that is no point of a web of so many points."""
-    beyond = [("just beyond", many), ("beyond", many + 1), ("thirteen", 13), ("-1", -1), ("least", -many)]
-    return beyond + great_numbers() + no_numbers()
-
-
-class SizeTest(unittest.TestCase):
+class SizeTest(RefusalCase):
     def test_every_number_from_1_to_12(self):
         for many in range(1, 13):
             with self.subTest(many):
@@ -70,19 +47,16 @@ class SizeTest(unittest.TestCase):
         numbers = [(str(many), many) for many in (0, 13, 14, 100, -1, -2, -12)]
         for name, many in numbers + great_numbers():
             with self.subTest(name):
-                with self.assertRaises(BadWeb):
-                    Web(many)
+                self.refused(BadWeb, Web, many)
 
     def test_what_is_no_number(self):
         for name, thing in no_numbers():
             with self.subTest(name):
-                with self.assertRaises(BadWeb):
-                    Web(thing)
+                self.refused(BadWeb, Web, thing)
 
     def test_a_refused_list_is_not_changed(self):
         rows = [3, [4]]
-        with self.assertRaises(BadWeb):
-            Web(rows)
+        self.refused(BadWeb, Web, rows)
         self.assertEqual(rows, [3, [4]])
 
 
@@ -158,65 +132,59 @@ class TieTest(unittest.TestCase):
         self.assertEqual(web.ties(), [(0, 1)])
 
 
-class NoPointTest(unittest.TestCase):
+class NoPointTest(RefusalCase):
     def setUp(self):
         self.web = web_with(4, [(0, 1), (2, 1)])
         self.before = all_told(self.web)
 
-    def refused(self, call, *points):
-        with self.assertRaises(NoPoint):
-            call(*points)
+    def no_point(self, call, *points):
+        self.refused(NoPoint, call, *points)
         self.assertEqual(all_told(self.web), self.before)
 
     def test_a_first_point_that_is_none(self):
         for call in (self.web.tie, self.web.untie, self.web.is_tied):
             for name, thing in no_points(4):
                 with self.subTest(name, call=call.__name__):
-                    self.refused(call, thing, 3)
+                    self.no_point(call, thing, 3)
 
     def test_a_second_point_that_is_none(self):
         for call in (self.web.tie, self.web.untie, self.web.is_tied):
             for name, thing in no_points(4):
                 with self.subTest(name, call=call.__name__):
-                    self.refused(call, 3, thing)
+                    self.no_point(call, 3, thing)
 
     def test_no_point_twice_is_no_point_ahead_of_a_bad_tie(self):
         for call in (self.web.tie, self.web.untie, self.web.is_tied):
             for name, thing in no_points(4):
                 with self.subTest(name, call=call.__name__):
-                    self.refused(call, thing, thing)
+                    self.no_point(call, thing, thing)
 
     def test_true_and_false_beside_points_that_are_tied(self):
         # Taken for 1 and 0 they would name a tie, or one point twice.
         for call in (self.web.tie, self.web.untie, self.web.is_tied):
             for points in [(True, 0), (0, True), (False, 1), (1, False), (True, 1), (0, False)]:
                 with self.subTest(points, call=call.__name__):
-                    self.refused(call, *points)
+                    self.no_point(call, *points)
 
     def test_near(self):
         for name, thing in no_points(4):
             with self.subTest(name):
-                self.refused(self.web.near, thing)
+                self.no_point(self.web.near, thing)
 
     def test_the_bound_is_that_of_each_web(self):
         for many in range(1, 13):
             with self.subTest(many):
                 web = Web(many)
                 self.assertEqual(web.near(many - 1), [many - 1])
-                with self.assertRaises(NoPoint):
-                    web.near(many)
+                self.refused(NoPoint, web.near, many)
 
     def test_handed_in_lists_are_not_changed(self):
         rows = [1, [2]]
         for call in (self.web.tie, self.web.untie, self.web.is_tied):
-            self.refused(call, rows, 0)
-            self.refused(call, 0, rows)
-        self.refused(self.web.near, rows)
+            self.no_point(call, rows, 0)
+            self.no_point(call, 0, rows)
+        self.no_point(self.web.near, rows)
         self.assertEqual(rows, [1, [2]])
-
-    def test_it_is_a_hunt_error(self):
-        with self.assertRaises(HuntError):
-            self.web.near("0")
 
 
 class ToldTest(unittest.TestCase):

@@ -78,3 +78,9 @@ def great_numbers():
         ("-2 ** 64", -(2**64)),
         ("-10 ** 6000", -(10**6000)),
     ]
+
+
+def no_points(many):
+    """Pairs of a name and a thing that is no point of a web of so many points."""
+    beyond = [("just beyond", many), ("beyond", many + 1), ("thirteen", 13), ("-1", -1), ("least", -many)]
+    return beyond + great_numbers() + no_numbers()
